@@ -1,0 +1,1 @@
+"""leastpass: least cards passed by a plan."""

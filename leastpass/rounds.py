@@ -1,0 +1,36 @@
+"""Playing rounds and plans on a board."""
+
+from leastpass.boards import require_board, require_plan
+from leastpass.errors import InvalidRound
+from leastpass.kinds import is_round
+
+
+def play_round(board, permutation):
+    """Return the board after one round."""
+    require_board(board)
+    if not is_round(len(board[0]), permutation):
+        raise InvalidRound()
+    return board_after_round(board, permutation)
+
+
+def play(board, plan):
+    """Return the board after all rounds of the plan, in order."""
+    require_board(board)
+    require_plan(len(board[0]), plan)
+    for permutation in plan:
+        board = board_after_round(board, permutation)
+    return board
+
+
+def board_after_round(board, permutation):
+    """Return the board after one round; both arguments have been checked."""
+    lots, hands = board
+    # All places pass at the same time, so loads and heaps are taken from the old board.
+    new_lots = list(lots)
+    new_hands = list(hands)
+    for giver, taker in enumerate(permutation):
+        load = hands[giver][:lots[giver]]
+        heap = hands[taker][lots[taker]:]
+        new_lots[taker] = lots[giver]
+        new_hands[taker] = tuple(sorted(heap + load))
+    return (tuple(new_lots), tuple(new_hands))
