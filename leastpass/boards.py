@@ -78,7 +78,7 @@ def require_places(places):
 
 
 def require_plan(places, plan):
-    """Raise InvalidPlan unless the argument is a plan for that many places."""
+    """Raise InvalidCount or InvalidPlan unless the plan is one for that many places."""
     reason = check_plan(places, plan)
     if reason is not None:
         raise InvalidPlan(reason)

@@ -45,6 +45,13 @@ def is_round(places, value):
     return True
 
 
+def is_row(value):
+    """Tell whether the value is a tuple of whole numbers, 0 or more, and not empty."""
+    if not isinstance(value, tuple) or len(value) == 0:
+        return False
+    return all([is_natural(item) for item in value])
+
+
 def is_row_pair(value):
     """Tell whether the value is two tuples of equal length, 1 or more."""
     if not isinstance(value, tuple) or len(value) != 2:

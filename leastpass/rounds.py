@@ -34,3 +34,12 @@ def board_after_round(board, permutation):
         new_lots[taker] = lots[giver]
         new_hands[taker] = tuple(sorted(heap + load))
     return (tuple(new_lots), tuple(new_hands))
+
+
+def boards_through(board, plan):
+    """Return the boards after 0 rounds, after 1 round, and so on; both arguments have been checked."""
+    found = [board]
+    for permutation in plan:
+        board = board_after_round(board, permutation)
+        found.append(board)
+    return found

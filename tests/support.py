@@ -61,6 +61,23 @@ def raised(case, error, function, *arguments, **named):
     return caught.exception
 
 
+def raises_first(case, function, choices):
+    """Make every choice of right and wrong arguments, and check that the first wrong one is reported.
+
+    Each choice is the right argument and a list of wrong ones, each with its error and its field.
+    """
+    rows = [[(right, None)] + wrong for right, wrong in choices]
+    for row in itertools.product(*rows):
+        expected = [error for _, error in row if error is not None]
+        if expected:
+            arguments = [argument for argument, _ in row]
+            with case.subTest(function=function.__name__, arguments=arguments):
+                error, fields = expected[0]
+                found = raised(case, error, function, *arguments)
+                # repr tells True from 1 and holds for a value that is not equal to itself.
+                case.assertEqual(repr(vars(found)), repr(fields))
+
+
 def all_sizes(places, largest):
     """Yield all sizes with lots and bases up to a number."""
     rows = list(itertools.product(range(largest + 1), repeat=places))
@@ -113,3 +130,88 @@ def spread_board(places, lot, hand_size, step):
         hands[(rank * step + rank // places) % places].append(rank)
     rest = 999999999 // many
     return (lot,) * places, tuple(tuple(rank * rest for rank in hand) for hand in hands)
+
+
+def slow_boards(board, plan):
+    """Return the boards after each number of rounds, without the package."""
+    boards = [board]
+    for permutation in plan:
+        boards.append(slow_round(boards[-1], permutation))
+    return boards
+
+
+def slow_positions(places, plan):
+    """Follow each load on its own, without the package."""
+    paths = []
+    for place in range(places):
+        path = [place]
+        for permutation in plan:
+            path.append(permutation[path[-1]])
+        paths.append(path)
+    return [tuple(path[time] for path in paths) for time in range(len(plan) + 1)]
+
+
+def slow_owners(board, plan):
+    """Return, after each round, the heap or the load that each card belongs to.
+
+    A card is followed by its owner, not by its board: every load meets the heap of its new place.
+    """
+    lots, hands = board
+    loads = {place: hand[:lots[place]] for place, hand in enumerate(hands)}
+    heaps = {place: hand[lots[place]:] for place, hand in enumerate(hands)}
+    owners = []
+    for positions in slow_positions(len(lots), plan):
+        for load, place in enumerate(positions):
+            both = sorted(loads[load] + heaps[place])
+            loads[load], heaps[place] = tuple(both[:lots[load]]), tuple(both[lots[load]:])
+        now = {card: ("load", load) for load, cards in loads.items() for card in cards}
+        now.update({card: ("heap", place) for place, cards in heaps.items() for card in cards})
+        owners.append(now)
+    return owners
+
+
+def repetitions_until_known(board, plan):
+    """Replay until board and loads are as before; return the two numbers of repetitions."""
+    positions = tuple(range(len(board[0])))
+    seen = {}
+    while (board, positions) not in seen:
+        seen[board, positions] = len(seen)
+        board = slow_boards(board, plan)[-1]
+        ends = slow_positions(len(positions), plan)[-1]
+        positions = tuple(ends[place] for place in positions)
+    return seen[board, positions], len(seen)
+
+
+def some_boards_and_plans():
+    """Yield boards and plans of up to three places, small enough to replay."""
+    boards = [
+        ((0,), ((),)), ((0,), ((3,),)), ((2,), ((3, 4, 8),)),
+        ((1, 0, 2), ((8, 9), (), (0, 3, 4))),
+        ((0, 0, 0), ((5,), (), (2, 3))),
+        ((1, 2, 0), ((4, 9), (0, 6, 8), (2, 5))),
+        ((1, 1, 1), ((7, 8), (3, 5), (1, 2))),
+        ((2, 1, 1), ((6, 7), (4,), (0,))),
+        ((1, 1, 1), ((9, 30), (10, 20), (11, 100))),
+    ]
+    for sizes in all_sizes(2, 1):
+        boards.extend(slow_board(sizes, owners) for owners in all_owner_lists(sizes))
+    for sizes in [((2, 1), (1, 2)), ((2, 0), (0, 2)), ((1, 2), (2, 0))]:
+        boards.extend(slow_board(sizes, owners) for owners in all_owner_lists(sizes))
+    for board in boards:
+        rounds = list(itertools.permutations(range(len(board[0]))))
+        for length in range(3):
+            for plan in itertools.product(rounds, repeat=length):
+                yield board, list(plan)
+
+
+def large_boards_and_plans():
+    """Yield boards and plans at the limits of [3] and somewhat beyond."""
+    for places, lot, size in [(12, 7, 24), (12, 24, 24), (12, 1, 24), (12, 23, 24), (13, 11, 26)]:
+        board = spread_board(places, lot, size, 5)
+        same = tuple(range(places))
+        shift = same[1:] + same[:1]
+        # Circles of 3, 4 and 5 places, so that the loads are all back after 60 repetitions only.
+        circles = (1, 2, 0, 4, 5, 6, 3, 8, 9, 10, 11, 7) + same[12:]
+        yield board, [shift]
+        yield board, [circles] + [same] * 39
+        yield board, [shift, tuple(reversed(same)), circles] * 13 + [shift]
