@@ -84,6 +84,18 @@ def require_plan(places, plan):
         raise InvalidPlan(reason)
 
 
+def load_at(board, place):
+    """Return the cards that the place passes next; the board has been checked."""
+    lots, hands = board
+    return hands[place][:lots[place]]
+
+
+def heap_at(board, place):
+    """Return the cards that the place keeps; the board has been checked."""
+    lots, hands = board
+    return hands[place][lots[place]:]
+
+
 def sizes_of(board):
     """Return the lots and the bases of a board."""
     require_board(board)

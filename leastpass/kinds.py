@@ -60,3 +60,8 @@ def is_row_pair(value):
     if not isinstance(first, tuple) or not isinstance(second, tuple):
         return False
     return len(first) == len(second) and len(first) > 0
+
+
+def is_form(value, word, length):
+    """Tell whether the value is a tuple of that length that begins with the word."""
+    return isinstance(value, tuple) and len(value) == length and value[0] == word

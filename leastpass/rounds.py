@@ -1,6 +1,6 @@
 """Playing rounds and plans on a board."""
 
-from leastpass.boards import require_board, require_plan
+from leastpass.boards import heap_at, load_at, require_board, require_plan
 from leastpass.errors import InvalidRound
 from leastpass.kinds import is_round
 
@@ -17,9 +17,7 @@ def play(board, plan):
     """Return the board after all rounds of the plan, in order."""
     require_board(board)
     require_plan(len(board[0]), plan)
-    for permutation in plan:
-        board = board_after_round(board, permutation)
-    return board
+    return board_after_plan(board, plan)
 
 
 def board_after_round(board, permutation):
@@ -29,11 +27,16 @@ def board_after_round(board, permutation):
     new_lots = list(lots)
     new_hands = list(hands)
     for giver, taker in enumerate(permutation):
-        load = hands[giver][:lots[giver]]
-        heap = hands[taker][lots[taker]:]
         new_lots[taker] = lots[giver]
-        new_hands[taker] = tuple(sorted(heap + load))
+        new_hands[taker] = tuple(sorted(heap_at(board, taker) + load_at(board, giver)))
     return (tuple(new_lots), tuple(new_hands))
+
+
+def board_after_plan(board, plan):
+    """Return the board after the plan; both arguments have been checked."""
+    for permutation in plan:
+        board = board_after_round(board, permutation)
+    return board
 
 
 def boards_through(board, plan):

@@ -37,7 +37,11 @@ def _lowest_cards(board):
 
 
 def _has_settled(board):
+    return count_misplaced(board) == 0
+
+
+def count_misplaced(board):
+    """Return how many low cards lie in heaps; the board has been checked."""
     lots, hands = board
-    passed = [card for lot, hand in zip(lots, hands) for card in hand[:lot]]
-    # The loads together have as many cards as there are low cards.
-    return sorted(passed) == _lowest_cards(board)
+    kept = {card for lot, hand in zip(lots, hands) for card in hand[lot:]}
+    return len([card for card in _lowest_cards(board) if card in kept])

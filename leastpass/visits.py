@@ -12,13 +12,13 @@ def load_positions(places, plan):
 def first_visits(places, plan):
     """Return each visit of a load to a place, with the round count of the first one."""
     require_plan(places, plan)
-    return _first_visits_through(places, plan)
+    return first_visits_through(places, plan)
 
 
 def first_visits_forever(places, plan):
     """Return the first visits for the plan repeated without end."""
     require_plan(places, plan)
-    return _first_visits_through(places, plan_with_all_visits(places, plan))
+    return first_visits_through(places, plan_with_all_visits(places, plan))
 
 
 def positions_through(places, plan):
@@ -41,7 +41,8 @@ def plan_with_all_visits(places, plan):
     return plan * places
 
 
-def _first_visits_through(places, plan):
+def first_visits_through(places, plan):
+    """Return the sorted first visits of the plan, which has been checked."""
     times = {}
     for time, positions in enumerate(positions_through(places, plan)):
         for load, place in enumerate(positions):

@@ -3,6 +3,8 @@
 import copy
 import itertools
 
+from leastpass.errors import InvalidBoard, InvalidPlan, InvalidSizes
+
 # Every kind that [2] calls any value. 1j cannot be compared and lists cannot be keys.
 ANY_VALUES = [
     None, True, False,
@@ -28,9 +30,41 @@ BAD_BOARDS = [
     (((0, 0), ((4,), (4,))), ("duplicate", 1)),
 ]
 
+BAD_SIZES = [
+    (None, ("shape",)),
+    ([(0,), (0,)], ("shape",)),
+    (((0, 0), (0,)), ("shape",)),
+    (((1, True), (1, 1)), ("lot", 1)),
+    (((1, -1), (-1, 1)), ("lot", 1)),
+    (((1, 1), (1, 1.0)), ("base", 1)),
+]
+
+# Each is wrong for two places.
+BAD_PLANS = [
+    (None, ("plan",)),
+    (((1, 0),), ("plan",)),
+    ([(0,)], ("round", 0)),
+    ([(1, 0), (0, 1, 2)], ("round", 1)),
+    ([(1, 0), (1, 0), (True, 0)], ("round", 2)),
+]
+
+
+def lists_in(value):
+    """Return every list in the value, the value itself included, once for each place where it stands."""
+    found = []
+    if isinstance(value, (list, tuple)):
+        for item in value:
+            found.extend(lists_in(item))
+    if isinstance(value, dict):
+        for key in value:
+            found.extend(lists_in(value[key]))
+    if isinstance(value, list):
+        found.append(value)
+    return found
+
 
 class Watched:
-    """Calls a function twice and checks what [2] says of every call."""
+    """Calls a function several times and checks what [2] says of every call."""
 
     def __init__(self, case):
         self.case = case
@@ -42,12 +76,17 @@ class Watched:
         second = function(*arguments)
         self.case.assertEqual(first, second)
         self.case.assertEqual(repr(first), repr(second))
-        if isinstance(first, list):
-            self.case.assertIsNot(first, second)
-            for argument in arguments:
-                self.case.assertIsNot(first, argument)
-            first.append("changed")
-            self.case.assertEqual(function(*arguments), second)
+        kept = repr(second)
+        others = {id(item) for item in lists_in(arguments) + lists_in(second)}
+        for item in lists_in(first):
+            self.case.assertNotIn(id(item), others)
+            others.add(id(item))
+        for item in lists_in(first):
+            item.append("changed")
+            item.insert(0, "changed")
+        self.case.assertEqual(repr(arguments), repr(before))
+        self.case.assertEqual(repr(second), kept)
+        self.case.assertEqual(repr(function(*arguments)), kept)
         return second
 
 
@@ -215,3 +254,157 @@ def large_boards_and_plans():
         yield board, [shift]
         yield board, [circles] + [same] * 39
         yield board, [shift, tuple(reversed(same)), circles] * 13 + [shift]
+
+
+def slow_visits(places, plan):
+    """The definition in [7] and [41], for one pair after the other."""
+    positions = slow_positions(places, plan)
+    found = []
+    for load, place in itertools.permutations(range(places), 2):
+        times = [time for time in range(1, len(plan) + 1) if positions[time][load] == place]
+        if times:
+            found.append((load, place, min(times)))
+    return found
+
+
+def slow_required(sizes):
+    """The definition in [9]."""
+    lots, bases = sizes
+    pairs = itertools.permutations(range(len(lots)), 2)
+    return [(load, place) for load, place in pairs if lots[load] and bases[place]]
+
+
+def slow_missed(sizes, plan):
+    """The definition in [9]."""
+    visited = [(load, place) for load, place, _ in slow_visits(len(sizes[0]), plan)]
+    return [pair for pair in slow_required(sizes) if pair not in visited]
+
+
+def slow_meetings(sizes, plan):
+    """The definition in [9], as tuples (time, load, place) in the order of the meetings."""
+    visits = slow_visits(len(sizes[0]), plan)
+    return sorted((time, load, place) for load, place, time in visits if (load, place) in slow_required(sizes))
+
+
+def slow_parts(board):
+    """Return the loads and the heaps at all places, without the package."""
+    lots, hands = board
+    loads = [hand[:lot] for lot, hand in zip(lots, hands)]
+    heaps = [hand[lot:] for lot, hand in zip(lots, hands)]
+    return loads, heaps
+
+
+def slow_misplaced(board):
+    """Count the low cards in heaps, [8], without the package."""
+    low = sorted(card for hand in board[1] for card in hand)[:sum(board[0])]
+    return sum(card in low for heap in slow_parts(board)[1] for card in heap)
+
+
+def slow_sizes(board):
+    lots, hands = board
+    return lots, tuple(len(hand) - lot for lot, hand in zip(lots, hands))
+
+
+def all_boards(sizes):
+    """Yield the boards of the cards 0, 1, 2, ... with these sizes."""
+    for owners in all_owner_lists(sizes):
+        yield slow_board(sizes, owners)
+
+
+def all_plans(places, longest):
+    """Yield the plans of up to that many rounds."""
+    rounds = list(itertools.permutations(range(places)))
+    for length in range(longest + 1):
+        for plan in itertools.product(rounds, repeat=length):
+            yield list(plan)
+
+
+def is_number(value):
+    """Tell whether the value is a whole number, [2]."""
+    return type(value) is int
+
+
+def is_place_of(places, value):
+    return type(value) is int and 0 <= value < places
+
+
+def is_plan_of(places, value):
+    """The definition in [6], without the package."""
+    if type(value) is not list or any(type(item) is not tuple for item in value):
+        return False
+    if any(type(place) is not int for item in value for place in item):
+        return False
+    return all(sorted(item) == list(range(places)) for item in value)
+
+
+def is_board(value):
+    """The definition in [5], without the package."""
+    if type(value) is not tuple or [type(item) for item in value] != [tuple, tuple]:
+        return False
+    lots, hands = value
+    if len(lots) != len(hands) or not lots or any(type(hand) is not tuple for hand in hands):
+        return False
+    cards = [card for hand in hands for card in hand]
+    if any(type(item) is not int or item < 0 for item in [*lots, *cards]) or len(set(cards)) < len(cards):
+        return False
+    return all(sorted(hand) == list(hand) and lot <= len(hand) for lot, hand in zip(lots, hands))
+
+
+REPLACEMENTS = [
+    None, True, False, 0, 1, 2, 3, -1, 99, 10 ** 30, 1.0, float("nan"), "", "fair", [], [0], (), (0,), ((0,), ((),)),
+    {}, {0: 1}, [(0,)], [[1, 0]],
+]
+
+
+def changed_in_one_item(value):
+    """Yield the value with one item, at any depth, replaced, left out, doubled, or turned into another kind."""
+    for other in REPLACEMENTS:
+        yield other
+    if type(value) is int:
+        yield from [value + 1, value - 1, float(value), str(value), value == 1]
+    if type(value) is str:
+        yield from [value + "s", value.upper(), [value], (value,)]
+    if type(value) is list or type(value) is tuple:
+        kind = type(value)
+        yield list(value) if kind is tuple else tuple(value)
+        yield dict(enumerate(value))
+        yield kind([value])
+        for other in [None, 0, 1, (0, 1), (1, 0), []]:
+            yield kind([*value, other])
+        for at, item in enumerate(value):
+            yield kind(value[:at] + value[at + 1:])
+            yield kind([*value[:at], item, *value[at:]])
+            for changed in changed_in_one_item(item):
+                yield kind([*value[:at], changed, *value[at + 1:]])
+
+
+def check_claims(case, function, slow, arguments, claims):
+    """Compare a checker with a slow one for these claims and for each of them changed in one item.
+
+    Return the faults that occurred.
+    """
+    faults = set()
+    for claim in [*claims, *ANY_VALUES]:
+        for changed in [claim, *changed_in_one_item(claim)]:
+            before = repr((arguments, changed))
+            found = function(*arguments, changed)
+            expected = slow(*arguments, changed)
+            if repr(found) != repr(expected) or repr((arguments, changed)) != before:
+                case.fail("%s%r: %r instead of %r" % (function.__name__, (*arguments, changed), found, expected))
+            faults.add(found and found[0])
+    return faults
+
+
+def board_choice(board):
+    """The right board and wrong ones, for raises_first."""
+    return board, [(value, (InvalidBoard, {"reason": reason})) for value, reason in BAD_BOARDS]
+
+
+def sizes_choice(sizes):
+    """The right sizes and wrong ones, for raises_first."""
+    return sizes, [(value, (InvalidSizes, {"reason": reason})) for value, reason in BAD_SIZES]
+
+
+def plan_choice(plan):
+    """The right plan for two places and wrong ones, for raises_first."""
+    return plan, [(value, (InvalidPlan, {"reason": reason})) for value, reason in BAD_PLANS]

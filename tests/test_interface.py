@@ -4,13 +4,19 @@ import unittest
 
 from leastpass.boards import card_owners, check_board, check_plan, check_sizes, deal_board, sizes_of
 from leastpass.errors import (
-    InvalidBoard, InvalidCard, InvalidCount, InvalidDeal, InvalidPlan, InvalidProfile, InvalidRepeats, InvalidRound,
-    InvalidSizes,
+    InvalidBoard, InvalidCard, InvalidCount, InvalidDeal, InvalidPairs, InvalidPlan, InvalidProfile, InvalidRepeats,
+    InvalidRound, InvalidSizes,
 )
+from leastpass.fairness import (
+    check_fairness, check_misplacement, judge_fairness, missed_visits, repeats_until_fair, settling_time,
+    worst_misplacement,
+)
+from leastpass.repairs import check_repair, fewest_rounds, repair_plan
 from leastpass.rounds import play, play_round
 from leastpass.settling import is_settled, low_cards, rounds_to_settle
 from leastpass.thresholds import counts_at_most, play_counts
 from leastpass.tracking import final_locations, locate_card, play_repeated, track_card
+from leastpass.visit_plans import check_visit_plan, plan_with_visits
 from leastpass.visits import first_visits, first_visits_forever, load_positions
 from tests.support import raised
 
@@ -48,6 +54,24 @@ FUNCTIONS = {
         "first_visits": ["places", "plan"],
         "first_visits_forever": ["places", "plan"],
     },
+    "leastpass.fairness": {
+        "missed_visits": ["sizes", "plan"],
+        "judge_fairness": ["sizes", "plan"],
+        "check_fairness": ["sizes", "plan", "claim"],
+        "repeats_until_fair": ["sizes", "plan"],
+        "worst_misplacement": ["sizes", "plan"],
+        "check_misplacement": ["sizes", "plan", "claim"],
+        "settling_time": ["sizes", "plan"],
+    },
+    "leastpass.repairs": {
+        "repair_plan": ["sizes", "plan"],
+        "check_repair": ["sizes", "plan", "claim"],
+        "fewest_rounds": ["sizes"],
+    },
+    "leastpass.visit_plans": {
+        "plan_with_visits": ["places", "pairs"],
+        "check_visit_plan": ["places", "pairs", "claim"],
+    },
 }
 
 BOARD = ((1, 1), ((5, 7), (1, 3)))
@@ -57,8 +81,16 @@ BOARD_ERRORS = [
     (((1.0, 1), ((5, 7), (1, 3))), InvalidBoard),
     (((1, 1), ((5, 7.0), (1, 3))), InvalidBoard),
 ]
+SIZES = ((1, 1), (1, 0))
+SIZES_ERRORS = [
+    (((1, True), (1, 0)), InvalidSizes),
+    (((1, 1), (True, 0)), InvalidSizes),
+    (((1, 1), (1, False)), InvalidSizes),
+    (((1, 1.0), (1, 0)), InvalidSizes),
+]
 PLAN_ERRORS = [([(True, 0)], InvalidPlan), ([(1, False)], InvalidPlan), ([(1, 0.0)], InvalidPlan)]
 CARD_ERRORS = [(True, InvalidCard), (1.0, InvalidCard)]
+PAIRS_ERRORS = [([(0, True)], InvalidPairs), ([(False, 1)], InvalidPairs), ([(0, 1.0)], InvalidPairs)]
 REPEATS_ERRORS = [(True, InvalidRepeats), (1.0, InvalidRepeats)]
 # Each parameter with a right argument, and with equal values of other types that are wrong.
 EQUAL_ARGUMENTS = [
@@ -84,6 +116,58 @@ EQUAL_ARGUMENTS = [
     (first_visits, [(1, [(True, InvalidCount)]), ([(0,)], [([(False,)], InvalidPlan)])]),
     (first_visits_forever, [(2, [(2.0, InvalidCount)]), ([(1, 0)], PLAN_ERRORS)]),
     (first_visits_forever, [(1, [(True, InvalidCount)]), ([(0,)], [([(False,)], InvalidPlan)])]),
+    (missed_visits, [(SIZES, SIZES_ERRORS), ([(1, 0)], PLAN_ERRORS)]),
+    (judge_fairness, [(SIZES, SIZES_ERRORS), ([(1, 0)], PLAN_ERRORS)]),
+    (check_fairness, [(SIZES, SIZES_ERRORS), ([(1, 0)], PLAN_ERRORS), (("fair",), [])]),
+    (repeats_until_fair, [(SIZES, SIZES_ERRORS), ([(1, 0)], PLAN_ERRORS)]),
+    (worst_misplacement, [(SIZES, SIZES_ERRORS), ([(1, 0)], PLAN_ERRORS)]),
+    (check_misplacement, [(SIZES, SIZES_ERRORS), ([(1, 0)], PLAN_ERRORS), ((0, ((1, 1), ((0, 2), (1,)))), [])]),
+    (settling_time, [(SIZES, SIZES_ERRORS), ([(1, 0)], PLAN_ERRORS)]),
+    (repair_plan, [(SIZES, SIZES_ERRORS), ([(1, 0)], PLAN_ERRORS)]),
+    (check_repair, [(SIZES, SIZES_ERRORS), ([(1, 0)], PLAN_ERRORS), (([], None), [])]),
+    (fewest_rounds, [(SIZES, SIZES_ERRORS)]),
+    (plan_with_visits, [(2, [(2.0, InvalidCount)]), ([(0, 1)], PAIRS_ERRORS)]),
+    (plan_with_visits, [(1, [(True, InvalidCount)]), ([], [])]),
+    (check_visit_plan, [(2, [(2.0, InvalidCount)]), ([(0, 1)], PAIRS_ERRORS), (("none", 0, 1, [1]), [])]),
+    (check_visit_plan, [(1, [(True, InvalidCount)]), ([], []), (("plan", []), [])]),
+]
+# Each checker with a claim that it accepts, and with equal claims of other types that it does not.
+EQUAL_CLAIMS = [
+    (check_fairness, ((0, 1), (1, 0)), [], ("unfair", 1, 0, ((0, 1), ((1,), (2,)))), [
+        ("unfair", True, 0, ((0, 1), ((1,), (2,)))),
+        ("unfair", 1, False, ((0, 1), ((1,), (2,)))),
+        ("unfair", 1, 0.0, ((0, 1), ((1,), (2,)))),
+        ("unfair", 1, 0, ((False, 1), ((1,), (2,)))),
+        ("unfair", 1, 0, ((0, True), ((1,), (2,)))),
+        ("unfair", 1, 0, ((0, 1), ((True,), (2,)))),
+        ("unfair", 1, 0, ((0, 1), ((1.0,), (2,)))),
+    ]),
+    (check_misplacement, ((0, 1), (1, 0)), [], (1, ((0, 1), ((1,), (2,)))), [
+        (True, ((0, 1), ((1,), (2,)))),
+        (1.0, ((0, 1), ((1,), (2,)))),
+        (1, ((0, True), ((1,), (2,)))),
+        (1, ((0, 1), ((True,), (2,)))),
+    ]),
+    (check_misplacement, ((0,), (1,)), [], (0, ((0,), ((1,),))), [
+        (False, ((0,), ((1,),))),
+        (0, ((False,), ((1,),))),
+        (0, ((0,), ((True,),))),
+    ]),
+    (check_repair, ((0, 1), (1, 0)), [], ([(1, 0)], ("from", 1)), [
+        ([(True, 0)], ("from", 1)),
+        ([(1, False)], ("from", 1)),
+        ([(1, 0.0)], ("from", 1)),
+        ([(1, 0)], ("from", True)),
+        ([(1, 0)], ("from", 1.0)),
+    ]),
+    (check_repair, ((0, 1), (1, 0)), [], ([(1, 0)], ("to", 0)), [([(1, 0)], ("to", False)), ([(1, 0)], ("to", 0.0))]),
+    (check_visit_plan, 2, [(0, 1), (1, 0)], ("plan", [(1, 0)]), [("plan", [(True, 0)]), ("plan", [(1, 0.0)])]),
+    (check_visit_plan, 2, [(0, 1)], ("none", 0, 1, [1]), [
+        ("none", False, 1, [1]),
+        ("none", 0, True, [1]),
+        ("none", 0, 1, [True]),
+        ("none", 0, 1, [1.0]),
+    ]),
 ]
 
 
@@ -150,3 +234,12 @@ class Types(unittest.TestCase):
                         for _ in range(2):
                             raised(self, error, function, *right[:at], argument, *right[at + 1:])
                             self.assertEqual(repr(function(*right)), repr(accepted))
+
+    def test_each_claim(self):
+        for function, *arguments, accepted, cases in EQUAL_CLAIMS:
+            for claim in cases:
+                with self.subTest(function=function.__name__, claim=claim):
+                    self.assertEqual(claim, accepted)
+                    for _ in range(2):
+                        self.assertIsNone(function(*arguments, accepted))
+                        self.assertEqual(function(*arguments, claim), ("form",))

@@ -122,3 +122,21 @@ class Language(unittest.TestCase):
                         self.assertIsNotNone(node.type)
                     if isinstance(node, ast.ClassDef):
                         self.assertEqual(node.decorator_list, [])
+
+    def test_forms_that_a_class_with_a_comparison_rules_out(self):
+        for path, tree in TREES.items():
+            with self.subTest(path.name):
+                # L7: beside an __eq__, any, all, min, max, sum and sorted take a list.
+                self.assertEqual(nodes(tree, ast.GeneratorExp), [])
+                # L25: beside an __eq__ or a __len__, no list is sorted in place.
+                called = {node.func.attr for node in nodes(tree, ast.Call) if isinstance(node.func, ast.Attribute)}
+                self.assertNotIn("sort", called)
+
+    def test_no_name_is_that_of_an_import_or_a_class_of_the_file(self):
+        for path, tree in TREES.items():
+            with self.subTest(path.name):
+                taken = {alias.name for node in nodes(tree, ast.ImportFrom) for alias in node.names}
+                taken |= {node.name for node in nodes(tree, ast.ClassDef)}
+                local = {node.id for node in nodes(tree, ast.Name) if not isinstance(node.ctx, ast.Load)}
+                local |= {node.arg for node in nodes(tree, ast.arg)}
+                self.assertEqual(local & taken, set())

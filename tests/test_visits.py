@@ -3,7 +3,7 @@ import unittest
 
 from leastpass.errors import InvalidCount, InvalidPlan
 from leastpass.visits import first_visits, first_visits_forever, load_positions
-from tests.support import NOT_LISTS, NOT_WHOLE, Watched, raised, raises_first, slow_positions
+from tests.support import NOT_LISTS, NOT_WHOLE, Watched, raised, raises_first, slow_positions, slow_visits
 
 FUNCTIONS = [load_positions, first_visits, first_visits_forever]
 SHIFT = (1, 2, 0)
@@ -31,17 +31,6 @@ def large_plans():
         yield places, [circles] * 40
         yield places, [shift, tuple(reversed(same)), circles] * 13 + [circles]
         yield places, [shift, circles] * 21
-
-
-def slow_visits(places, plan):
-    """The definition in [7] and [41], for one pair after the other."""
-    positions = slow_positions(places, plan)
-    found = []
-    for load, place in itertools.permutations(range(places), 2):
-        times = [time for time in range(1, len(plan) + 1) if positions[time][load] == place]
-        if times:
-            found.append((load, place, min(times)))
-    return found
 
 
 def repetitions_until_back(places, plan):
