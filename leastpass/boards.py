@@ -84,6 +84,18 @@ def require_plan(places, plan):
         raise InvalidPlan(reason)
 
 
+def require_board_and_plan(board, plan):
+    """Raise InvalidBoard or InvalidPlan unless the arguments are a board and a plan for it."""
+    require_board(board)
+    require_plan(len(board[0]), plan)
+
+
+def require_sizes_and_plan(sizes, plan):
+    """Raise InvalidSizes or InvalidPlan unless the arguments are sizes and a plan for them."""
+    require_sizes(sizes)
+    require_plan(len(sizes[0]), plan)
+
+
 def load_at(board, place):
     """Return the cards that the place passes next; the board has been checked."""
     lots, hands = board

@@ -1,6 +1,6 @@
 """Whether a plan settles every board of given sizes, and how much it can leave misplaced."""
 
-from leastpass.boards import check_board, heap_at, load_at, require_plan, require_sizes, sizes_of
+from leastpass.boards import check_board, heap_at, load_at, require_sizes_and_plan, sizes_of
 from leastpass.kinds import is_form, is_natural, is_place
 from leastpass.meetings import meetings_in_order, missed_pairs
 from leastpass.rounds import board_after_plan
@@ -11,13 +11,13 @@ from leastpass.witnesses import deal_against_meeting, deal_with_middle
 
 def missed_visits(sizes, plan):
     """Return the required pairs that the plan misses, in ascending order."""
-    _require_sizes_and_plan(sizes, plan)
+    require_sizes_and_plan(sizes, plan)
     return missed_pairs(sizes, plan)
 
 
 def judge_fairness(sizes, plan):
     """Tell whether the plan is fair; if not, name a missed pair and a board that shows it."""
-    _require_sizes_and_plan(sizes, plan)
+    require_sizes_and_plan(sizes, plan)
     missed = missed_pairs(sizes, plan)
     if not missed:
         return ("fair",)
@@ -27,7 +27,7 @@ def judge_fairness(sizes, plan):
 
 def check_fairness(sizes, plan, claim):
     """Return None for a valid result of judge_fairness, otherwise the first fault."""
-    _require_sizes_and_plan(sizes, plan)
+    require_sizes_and_plan(sizes, plan)
     missed = missed_pairs(sizes, plan)
     if is_form(claim, "fair", 1):
         return ("missed",) + missed[0] if missed else None
@@ -45,7 +45,7 @@ def check_fairness(sizes, plan, claim):
 
 def repeats_until_fair(sizes, plan):
     """Return the smallest number of repetitions after which the plan is fair, or None."""
-    _require_sizes_and_plan(sizes, plan)
+    require_sizes_and_plan(sizes, plan)
     rounds = plan_with_all_visits(len(sizes[0]), plan)
     if missed_pairs(sizes, rounds):
         return None
@@ -58,7 +58,7 @@ def repeats_until_fair(sizes, plan):
 
 def worst_misplacement(sizes, plan):
     """Return the largest number of cards misplaced after the plan, and a board that reaches it."""
-    _require_sizes_and_plan(sizes, plan)
+    require_sizes_and_plan(sizes, plan)
     worst = 0
     middle = []
     for loads, places in _missed_blocks(sizes, plan):
@@ -71,7 +71,7 @@ def worst_misplacement(sizes, plan):
 
 def check_misplacement(sizes, plan, claim):
     """Return None for a valid result of worst_misplacement, otherwise the first fault."""
-    _require_sizes_and_plan(sizes, plan)
+    require_sizes_and_plan(sizes, plan)
     if not _is_misplacement_claim(claim):
         return ("form",)
     number, board = claim
@@ -87,7 +87,7 @@ def check_misplacement(sizes, plan, claim):
 
 def settling_time(sizes, plan):
     """Return after how many rounds every board is settled, and a board that needs them all."""
-    _require_sizes_and_plan(sizes, plan)
+    require_sizes_and_plan(sizes, plan)
     missed = missed_pairs(sizes, plan)
     if missed:
         return ("unfair",) + missed[0]
@@ -96,11 +96,6 @@ def settling_time(sizes, plan):
         return ("time", 0, None)
     time, load, place = meetings[-1]
     return ("time", time, deal_against_meeting(sizes, load, place))
-
-
-def _require_sizes_and_plan(sizes, plan):
-    require_sizes(sizes)
-    require_plan(len(sizes[0]), plan)
 
 
 def _is_unfair_claim(places, claim):

@@ -1,6 +1,6 @@
 """The fewest rounds that make a plan fair."""
 
-from leastpass.boards import check_plan, require_plan, require_sizes
+from leastpass.boards import check_plan, require_sizes, require_sizes_and_plan
 from leastpass.kinds import is_form, is_place
 from leastpass.meetings import missed_pairs, required_pairs
 from leastpass.visits import positions_through
@@ -8,9 +8,8 @@ from leastpass.visits import positions_through
 
 def repair_plan(sizes, plan):
     """Return the fewest rounds that repair the plan, and a load or place that needs them all."""
-    require_sizes(sizes)
+    require_sizes_and_plan(sizes, plan)
     places = len(sizes[0])
-    require_plan(places, plan)
     missed = missed_pairs(sizes, plan)
     reasons = _reasons(places, missed)
     number = _largest_count(reasons)
@@ -27,9 +26,8 @@ def repair_plan(sizes, plan):
 
 def check_repair(sizes, plan, claim):
     """Return None for a valid result of repair_plan, otherwise the first fault."""
-    require_sizes(sizes)
+    require_sizes_and_plan(sizes, plan)
     places = len(sizes[0])
-    require_plan(places, plan)
     if not _is_repair_claim(places, claim):
         return ("form",)
     rounds, reason = claim

@@ -1,6 +1,6 @@
 """Playing rounds and plans on a board."""
 
-from leastpass.boards import heap_at, load_at, require_board, require_plan
+from leastpass.boards import heap_at, load_at, require_board, require_board_and_plan
 from leastpass.errors import InvalidRound
 from leastpass.kinds import is_round
 
@@ -15,8 +15,7 @@ def play_round(board, permutation):
 
 def play(board, plan):
     """Return the board after all rounds of the plan, in order."""
-    require_board(board)
-    require_plan(len(board[0]), plan)
+    require_board_and_plan(board, plan)
     return board_after_plan(board, plan)
 
 

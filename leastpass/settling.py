@@ -1,6 +1,6 @@
 """The low cards of a board, and when they are all in loads."""
 
-from leastpass.boards import require_board, require_plan
+from leastpass.boards import require_board, require_board_and_plan
 from leastpass.rounds import boards_through
 from leastpass.visits import plan_with_all_visits
 
@@ -19,9 +19,8 @@ def is_settled(board):
 
 def rounds_to_settle(board, plan):
     """Return after how many rounds of the repeated plan the board is settled, or None."""
-    require_board(board)
+    require_board_and_plan(board, plan)
     places = len(board[0])
-    require_plan(places, plan)
     # Only a load at a place that is new to it changes, so later rounds settle nothing.
     boards = boards_through(board, plan_with_all_visits(places, plan))
     for time, reached in enumerate(boards):

@@ -1,6 +1,6 @@
 """Following cards through a plan that is played once, often or without end."""
 
-from leastpass.boards import require_board, require_plan
+from leastpass.boards import require_board_and_plan
 from leastpass.errors import InvalidCard, InvalidRepeats
 from leastpass.kinds import is_natural, is_whole
 from leastpass.rounds import board_after_round, boards_through
@@ -9,24 +9,21 @@ from leastpass.visits import plan_with_all_visits, positions_through
 
 def track_card(board, plan, card):
     """Return where the card lies after 0 rounds, after 1 round, and so on."""
-    require_board(board)
-    require_plan(len(board[0]), plan)
+    require_board_and_plan(board, plan)
     _require_card(board, card)
     return [_location(reached, card) for reached in boards_through(board, plan)]
 
 
 def play_repeated(board, plan, repeats):
     """Return the board after that many repetitions of the plan."""
-    require_board(board)
-    require_plan(len(board[0]), plan)
+    require_board_and_plan(board, plan)
     _require_repeats(repeats)
     return _board_after_repeats(board, plan, repeats)
 
 
 def locate_card(board, plan, card, repeats):
     """Return where the card lies after that many repetitions of the plan."""
-    require_board(board)
-    require_plan(len(board[0]), plan)
+    require_board_and_plan(board, plan)
     _require_card(board, card)
     _require_repeats(repeats)
     return _location(_board_after_repeats(board, plan, repeats), card)
@@ -34,9 +31,8 @@ def locate_card(board, plan, card, repeats):
 
 def final_locations(board, plan):
     """Return for each card the heap or load that it finally belongs to, and since when."""
-    require_board(board)
+    require_board_and_plan(board, plan)
     places = len(board[0])
-    require_plan(places, plan)
     # Only a load at a place that is new to it changes, so later rounds change no owner.
     rounds = plan_with_all_visits(places, plan)
     positions = positions_through(places, rounds)

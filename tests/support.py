@@ -311,6 +311,14 @@ def all_boards(sizes):
         yield slow_board(sizes, owners)
 
 
+def slow_results(sizes, plan):
+    """Play every board of the cards 0, 1, 2, ... and collect the sources of each result, in the order of [82]."""
+    sources = {}
+    for board in all_boards(sizes):
+        sources.setdefault(slow_boards(board, plan)[-1], []).append(board)
+    return sources
+
+
 def all_plans(places, longest):
     """Yield the plans of up to that many rounds."""
     rounds = list(itertools.permutations(range(places)))

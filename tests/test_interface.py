@@ -3,24 +3,31 @@ import inspect
 import unittest
 
 from leastpass.boards import card_owners, check_board, check_plan, check_sizes, deal_board, sizes_of
+from leastpass.counting import (
+    card_probability, count_deals, count_last_rounds, count_reachable, count_sources, count_unsettled, last_round_at,
+    last_round_index, source_at, source_index,
+)
 from leastpass.errors import (
-    InvalidBoard, InvalidCard, InvalidCount, InvalidDeal, InvalidPairs, InvalidPlan, InvalidProfile, InvalidRepeats,
-    InvalidRound, InvalidSizes,
+    IndexTooLarge, InvalidBoard, InvalidCard, InvalidCount, InvalidDeal, InvalidPairs, InvalidPlace, InvalidPlan,
+    InvalidProfile, InvalidRepeats, InvalidRound, InvalidSizes,
 )
 from leastpass.fairness import (
     check_fairness, check_misplacement, judge_fairness, missed_visits, repeats_until_fair, settling_time,
     worst_misplacement,
 )
+from leastpass.games import Game
 from leastpass.repairs import check_repair, fewest_rounds, repair_plan
 from leastpass.rounds import play, play_round
 from leastpass.settling import is_settled, low_cards, rounds_to_settle
+from leastpass.signatures import check_comparison, compare_plans, plan_signature
+from leastpass.sources import check_source, find_source, return_time, send_home
 from leastpass.thresholds import counts_at_most, play_counts
 from leastpass.tracking import final_locations, locate_card, play_repeated, track_card
 from leastpass.visit_plans import check_visit_plan, plan_with_visits
 from leastpass.visits import first_visits, first_visits_forever, load_positions
 from tests.support import raised
 
-# The part of the section "The interface" that has landed.
+# The functions in the section "The interface".
 FUNCTIONS = {
     "leastpass.boards": {
         "check_board": ["value"],
@@ -72,9 +79,46 @@ FUNCTIONS = {
         "plan_with_visits": ["places", "pairs"],
         "check_visit_plan": ["places", "pairs", "claim"],
     },
+    "leastpass.sources": {
+        "send_home": ["board", "plan"],
+        "find_source": ["board", "plan"],
+        "check_source": ["board", "plan", "claim"],
+        "return_time": ["board", "plan"],
+    },
+    "leastpass.signatures": {
+        "plan_signature": ["sizes", "plan"],
+        "compare_plans": ["sizes", "first", "second"],
+        "check_comparison": ["sizes", "first", "second", "claim"],
+    },
+    "leastpass.counting": {
+        "count_sources": ["board", "plan"],
+        "source_at": ["board", "plan", "index"],
+        "source_index": ["board", "plan", "source"],
+        "count_deals": ["sizes"],
+        "count_unsettled": ["sizes", "plan"],
+        "count_reachable": ["sizes", "plan"],
+        "card_probability": ["sizes", "plan", "card", "start", "end"],
+        "count_last_rounds": ["board"],
+        "last_round_at": ["board", "index"],
+        "last_round_index": ["board", "permutation"],
+    },
+}
+# What the interface lists for the class Game of leastpass.games; "plan" of Game is passed by name alone.
+METHODS = {
+    "apply": ["plan"],
+    "apply_round": ["permutation"],
+    "send_home": [],
+    "undo": [],
+    "board": [],
+    "rounds": [],
+    "copy": [],
+    "__len__": [],
+    "__eq__": ["other"],
 }
 
 BOARD = ((1, 1), ((5, 7), (1, 3)))
+# It has two sources, and two rounds may have been the last.
+REACHED = ((1, 1), ((1, 4), (2, 3)))
 BOARD_ERRORS = [
     (((1, True), ((5, 7), (1, 3))), InvalidBoard),
     (((1, 1), ((5, 7), (True, 3))), InvalidBoard),
@@ -91,6 +135,7 @@ SIZES_ERRORS = [
 PLAN_ERRORS = [([(True, 0)], InvalidPlan), ([(1, False)], InvalidPlan), ([(1, 0.0)], InvalidPlan)]
 CARD_ERRORS = [(True, InvalidCard), (1.0, InvalidCard)]
 PAIRS_ERRORS = [([(0, True)], InvalidPairs), ([(False, 1)], InvalidPairs), ([(0, 1.0)], InvalidPairs)]
+INDEX_ERRORS = [(True, IndexTooLarge), (1.0, IndexTooLarge)]
 REPEATS_ERRORS = [(True, InvalidRepeats), (1.0, InvalidRepeats)]
 # Each parameter with a right argument, and with equal values of other types that are wrong.
 EQUAL_ARGUMENTS = [
@@ -130,6 +175,31 @@ EQUAL_ARGUMENTS = [
     (plan_with_visits, [(1, [(True, InvalidCount)]), ([], [])]),
     (check_visit_plan, [(2, [(2.0, InvalidCount)]), ([(0, 1)], PAIRS_ERRORS), (("none", 0, 1, [1]), [])]),
     (check_visit_plan, [(1, [(True, InvalidCount)]), ([], []), (("plan", []), [])]),
+    (send_home, [(BOARD, BOARD_ERRORS), ([(1, 0)], PLAN_ERRORS)]),
+    (find_source, [(BOARD, BOARD_ERRORS), ([(1, 0)], PLAN_ERRORS)]),
+    (check_source, [(BOARD, BOARD_ERRORS), ([(1, 0)], PLAN_ERRORS), (("source", BOARD), [])]),
+    (return_time, [(BOARD, BOARD_ERRORS), ([(1, 0)], PLAN_ERRORS)]),
+    (plan_signature, [(SIZES, SIZES_ERRORS), ([(1, 0)], PLAN_ERRORS)]),
+    (compare_plans, [(SIZES, SIZES_ERRORS), ([(1, 0)], PLAN_ERRORS), ([(1, 0)], PLAN_ERRORS)]),
+    (check_comparison, [(SIZES, SIZES_ERRORS), ([(1, 0)], PLAN_ERRORS), ([(1, 0)], PLAN_ERRORS), (("same",), [])]),
+    (count_sources, [(BOARD, BOARD_ERRORS), ([(1, 0)], PLAN_ERRORS)]),
+    (source_at, [(REACHED, []), ([(1, 0)], PLAN_ERRORS), (1, INDEX_ERRORS)]),
+    (source_at, [(REACHED, []), ([(1, 0)], []), (0, [(False, IndexTooLarge), (0.0, IndexTooLarge)])]),
+    (source_index, [(BOARD, BOARD_ERRORS), ([(1, 0)], PLAN_ERRORS), (BOARD, BOARD_ERRORS)]),
+    (count_deals, [(SIZES, SIZES_ERRORS)]),
+    (count_unsettled, [(SIZES, SIZES_ERRORS), ([(1, 0)], PLAN_ERRORS)]),
+    (count_reachable, [(SIZES, SIZES_ERRORS), ([(1, 0)], PLAN_ERRORS)]),
+    (card_probability, [
+        (SIZES, SIZES_ERRORS), ([(1, 0)], PLAN_ERRORS), (1, CARD_ERRORS),
+        (1, [(True, InvalidPlace), (1.0, InvalidPlace)]), (0, [(False, InvalidPlace), (0.0, InvalidPlace)]),
+    ]),
+    (card_probability, [
+        (SIZES, []), ([(1, 0)], []), (0, [(False, InvalidCard)]), (0, [(False, InvalidPlace)]), (1, [(True, InvalidPlace)]),
+    ]),
+    (count_last_rounds, [(BOARD, BOARD_ERRORS)]),
+    (last_round_at, [(REACHED, []), (1, INDEX_ERRORS)]),
+    (last_round_at, [(BOARD, BOARD_ERRORS), (0, [(False, IndexTooLarge), (0.0, IndexTooLarge)])]),
+    (last_round_index, [(BOARD, BOARD_ERRORS), ((1, 0), [((True, 0), InvalidRound), ((1, 0.0), InvalidRound)])]),
 ]
 # Each checker with a claim that it accepts, and with equal claims of other types that it does not.
 EQUAL_CLAIMS = [
@@ -168,6 +238,28 @@ EQUAL_CLAIMS = [
         ("none", 0, 1, [True]),
         ("none", 0, 1, [1.0]),
     ]),
+    (check_source, ((1, 1), ((1, 2), (3, 4))), [(0, 1)], ("source", ((1, 1), ((1, 2), (3, 4)))), [
+        ("source", ((1, True), ((1, 2), (3, 4)))),
+        ("source", ((1, 1), ((True, 2), (3, 4)))),
+        ("source", ((1, 1), ((1, 2), (3.0, 4)))),
+    ]),
+    (check_source, ((1, 1), ((0, 5), (6, 7))), [(1, 0), (1, 0)], ("none", 1, 0, 1, 6, 5), [
+        ("none", True, 0, 1, 6, 5),
+        ("none", 1, False, 1, 6, 5),
+        ("none", 1, 0, True, 6, 5),
+        ("none", 1, 0, 1, 6.0, 5),
+        ("none", 1, 0, 1, 6, 5.0),
+    ]),
+    (check_source, ((0, 1), ((0,), (1,))), [(1, 0), (1, 0)], ("none", 1, 0, 1, 1, 0), [
+        ("none", 1, 0, 1, True, 0),
+        ("none", 1, 0, 1, 1, False),
+    ]),
+    (check_comparison, ((0, 1), (1, 0)), [], [(1, 0)], ("different", ((0, 1), ((1,), (2,)))), [
+        ("different", ((0, True), ((1,), (2,)))),
+        ("different", ((False, 1), ((1,), (2,)))),
+        ("different", ((0, 1), ((True,), (2,)))),
+        ("different", ((0, 1), ((1,), (2.0,)))),
+    ]),
 ]
 
 
@@ -184,6 +276,33 @@ class Interface(unittest.TestCase):
                     for parameter in parameters:
                         self.assertIs(parameter.kind, inspect.Parameter.POSITIONAL_OR_KEYWORD)
                         self.assertIs(parameter.default, inspect.Parameter.empty)
+
+    def test_game(self):
+        self.assertTrue(inspect.isclass(Game))
+        self.assertEqual(Game.__module__, "leastpass.games")
+        board, plan = inspect.signature(Game).parameters.values()
+        self.assertEqual((board.name, plan.name), ("board", "plan"))
+        self.assertIs(board.kind, inspect.Parameter.POSITIONAL_OR_KEYWORD)
+        self.assertIs(board.default, inspect.Parameter.empty)
+        self.assertIs(plan.kind, inspect.Parameter.KEYWORD_ONLY)
+        self.assertEqual(plan.default, ())
+        for name, names in METHODS.items():
+            with self.subTest(method=name):
+                # Each stands in the class itself, not only in a base class.
+                self.assertTrue(inspect.isfunction(vars(Game)[name]))
+                parameters = list(inspect.signature(vars(Game)[name]).parameters.values())[1:]
+                self.assertEqual([parameter.name for parameter in parameters], names)
+                for parameter in parameters:
+                    self.assertIs(parameter.kind, inspect.Parameter.POSITIONAL_OR_KEYWORD)
+                    self.assertIs(parameter.default, inspect.Parameter.empty)
+
+    def test_the_errors(self):
+        for name in [
+            "LeastPassError", "InvalidBoard", "InvalidSizes", "InvalidPlan", "InvalidRound", "InvalidCard", "InvalidPlace",
+            "InvalidCount", "InvalidRepeats", "InvalidProfile", "InvalidPairs", "InvalidDeal", "IndexTooLarge",
+            "ProblemTooLarge", "NothingToUndo",
+        ]:
+            self.assertEqual(getattr(importlib.import_module("leastpass.errors"), name).__module__, "leastpass.errors")
 
 
 class Types(unittest.TestCase):
